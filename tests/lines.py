@@ -7,6 +7,7 @@ NOT_BEGUN = [-11]
 NOT_RIGHT = [-22]
 NONE_OR_TOO_MUCH = [-33]
 BIGGEST = 4294967295
+MOST_CALLS = 40
 
 
 def begin(m, n):
@@ -41,6 +42,38 @@ def ruler(j):
     return [7, j]
 
 
+def selfruled():
+    return [8]
+
+
+def free():
+    return [9]
+
+
+def together(s):
+    return [10, s]
+
+
+def least(j):
+    return [11, j]
+
+
+def weight(p, j):
+    return [12, p, j]
+
+
+def cheapest(p, j):
+    return [13, p, j]
+
+
+def lacking(p, j):
+    return [14, p, j]
+
+
+def state():
+    return [15]
+
+
 def split(told):
     """The answers, a list for each call; fails where a count doesn't fit what follows it."""
     rows = []
@@ -56,6 +89,8 @@ def split(told):
 
 def told(*calls):
     """The answers to these calls as one line, a list for each call."""
+    if len(calls) > MOST_CALLS:
+        raise AssertionError(f"a line has at most {MOST_CALLS} calls, not {len(calls)}")
     rows = split(answers([number for call in calls for number in call]))
     if len(rows) != len(calls):
         raise AssertionError(f"{len(calls)} calls, {len(rows)} answers")
@@ -65,3 +100,12 @@ def told(*calls):
 def last(*calls):
     """The answer to the last of these calls."""
     return told(*calls)[-1]
+
+
+def replies(calls, questions):
+    """The answers to the questions, each asked behind all of these calls, on as many lines as it needs."""
+    room = MOST_CALLS - len(calls)
+    rows = []
+    for start in range(0, len(questions), room):
+        rows += told(*calls, *questions[start:start + room])[len(calls):]
+    return rows

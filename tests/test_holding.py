@@ -3,8 +3,8 @@
 import unittest
 
 from tests.lines import (
-    BIGGEST, NONE_OR_TOO_MUCH, NOT_RIGHT, NO_SUCH, begin, hold, last, part, prices, quorum, ruler, rules, told, votes)
-from whorules.desk import Desk
+    BIGGEST, NONE_OR_TOO_MUCH, NOT_RIGHT, NO_SUCH, begin, hold, last, part, prices, quorum, ruler, rules, state,
+    told, votes)
 
 
 class Begin(unittest.TestCase):
@@ -40,9 +40,9 @@ class Begin(unittest.TestCase):
         self.assertEqual(last(begin(1, 1), hold(0, 0, 59, 100), rules(0)), [0])
 
     def test_each_price_is_100(self):
-        desk = Desk()
-        desk.answer(0, [1, 4])
-        self.assertEqual(desk.book.prices, [100, 100, 100, 100])
+        for n in range(1, 6):
+            with self.subTest(n=n):
+                self.assertEqual(last(begin(1, n), state()), [1, n, 3, 5] + [100] * n)
 
     def test_a_later_one_makes_all_new(self):
         self.assertEqual(told(begin(2, 3), hold(0, 0, 1, 1), hold(3, 1, 2, 3), quorum(1, 1), prices(1, 2, 3),
@@ -52,11 +52,7 @@ class Begin(unittest.TestCase):
                          [[0], [0], [0, 0, 1], NO_SUCH, NO_SUCH])
 
     def test_a_later_one_makes_the_prices_new(self):
-        desk = Desk()
-        desk.answer(0, [1, 2])
-        desk.answer(4, [3, 4])
-        desk.answer(0, [1, 3])
-        self.assertEqual(desk.book.prices, [100, 100, 100])
+        self.assertEqual(last(begin(1, 2), prices(3, 4), begin(1, 3), state()), [1, 3, 3, 5, 100, 100, 100])
 
     def test_a_later_one_that_is_refused_changes_nothing(self):
         for m, n in ((0, 3), (5, 3), (2, 0), (2, 6)):

@@ -2,8 +2,7 @@
 
 import unittest
 
-from tests.lines import BIGGEST, NOT_RIGHT, begin, hold, last, prices, quorum, rules, told
-from whorules.desk import Desk
+from tests.lines import BIGGEST, NOT_RIGHT, begin, hold, last, prices, quorum, rules, state, told
 
 
 class Quorum(unittest.TestCase):
@@ -64,21 +63,14 @@ class Prices(unittest.TestCase):
                     self.assertEqual(last(begin(1, 3), prices(*row)), answer)
 
     def test_these_are_kept(self):
-        desk = Desk()
-        desk.answer(0, [1, 3])
-        row = [0, 1000, 7]
-        self.assertEqual(desk.answer(4, row), [0])
-        row.clear()
-        self.assertEqual(desk.book.prices, [0, 1000, 7])
+        self.assertEqual(told(begin(1, 3), prices(0, 1000, 7), state(), prices(5, 5, 5), state())[2:],
+                         [[1, 3, 3, 5, 0, 1000, 7], [0], [1, 3, 3, 5, 5, 5, 5]])
 
     def test_what_is_refused_changes_nothing(self):
-        desk = Desk()
-        desk.answer(0, [1, 2])
-        desk.answer(4, [3, 4])
         for row in ([], [1], [1, 2, 3], [1, 1001], [1001, 1]):
             with self.subTest(row=row):
-                self.assertEqual(desk.answer(4, row), NOT_RIGHT)
-                self.assertEqual(desk.book.prices, [3, 4])
+                self.assertEqual(told(begin(1, 2), prices(3, 4), prices(*row), state())[2:],
+                                 [NOT_RIGHT, [1, 2, 3, 5, 3, 4]])
 
     def test_rule_nothing(self):
         self.assertEqual(told(begin(1, 2), hold(0, 1, 3, 5), prices(0, 0), rules(0)), [[0], [0, 0, 1], [0], [1, 1]])
